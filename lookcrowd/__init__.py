@@ -1,0 +1,1 @@
+"""Lookcrowd: crowds whose members look at one another."""
