@@ -160,3 +160,85 @@ def draw_boxes(drawn, kinds, many, top):
 def draw_rules(drawn, kinds, most):
     rules = all_rules(kinds)
     return drawn.sample(rules, min(len(rules), drawn.randint(0, most)))
+
+
+# How many members the crowds have that are asked of, by the number of kinds.
+MEMBERS = {1: 9, 2: 9, 3: 7}
+# The bounds of [2] for families of ways and settling: the greatest number in a box, by the number of kinds.
+TOP = {1: 2, 2: 2, 3: 1}
+
+
+class Steps:
+    """All crowds of up to some members, with what each one leads to, and where crowds come from."""
+
+    def __init__(self, kinds, rules):
+        self.kinds, self.rules = kinds, rules
+        self.crowds = crowds_up_to(len(kinds), MEMBERS[len(kinds)])
+        self.next = {crowd: behind(kinds, rules, crowd) for crowd in self.crowds}
+        self.ends = {crowd: self.all_from(crowd) for crowd in self.crowds}
+
+    def all_from(self, crowd):
+        seen, left = {crowd}, [crowd]
+        while left:
+            for new in self.next[left.pop()]:
+                if new not in seen:
+                    seen.add(new)
+                    left.append(new)
+        return seen
+
+    def inside(self, boxes):
+        return {crowd for crowd in self.crowds if lies_in(boxes, crowd)}
+
+    def led_to(self, inside):
+        return {end for crowd in inside for end in self.ends[crowd]}
+
+    def leads_into(self, inside):
+        return {crowd for crowd in self.crowds if self.ends[crowd] & inside}
+
+    def one_look(self, inside):
+        return {end for crowd in inside for end in self.next[crowd]}
+
+    def stays(self, inside):
+        return {crowd for crowd in inside if self.ends[crowd] <= inside}
+
+    def rests(self):
+        return {crowd for crowd in self.crowds if not self.next[crowd]}
+
+    def settled(self, inside):
+        """All crowds that settle, by [9]."""
+        kept = self.stays(inside)
+        return {crowd for crowd in self.crowds if all(self.ends[end] & kept for end in self.ends[crowd])}
+
+    def settled_by_runs(self, inside):
+        """All crowds that settle, by [7].
+
+        What comes about again and again in a fair run leads to nothing else than what does so, too: such
+        crowds lead to one another and to no other ones. And of any such crowds there is a fair run to them.
+        """
+        lasting = {crowd for crowd in self.crowds if all(crowd in self.ends[end] for end in self.ends[crowd])}
+        return {crowd for crowd in self.crowds if self.ends[crowd] & lasting <= inside}
+
+
+def is_closed_plainly(kinds, rules, boxes):
+    """True if no rule leads out: numbers beyond those in the boxes by two make no difference any more."""
+    end = greatest_number(boxes) + 4
+    return all(lies_in(boxes, new) for crowd in crowds_below(len(kinds), end) if lies_in(boxes, crowd)
+               for new in behind(kinds, rules, crowd))
+
+
+def lies_within_plainly(kinds, boxes, others):
+    end = max(greatest_number(boxes), greatest_number(others)) + 2
+    return all(lies_in(others, crowd) for crowd in crowds_below(kinds, end) if lies_in(boxes, crowd))
+
+
+def draw_family(drawn, kinds):
+    """The boxes of a family within the bounds, now and then of no crowd or of all crowds."""
+    if drawn.random() < 0.05:
+        return drawn.choice([[], [[(0, None)] * kinds]])
+    return draw_boxes(drawn, kinds, drawn.choice([0, 1, 1, 2, 2, 2, 2]), TOP[kinds])
+
+
+def draw_kinds_and_rules(drawn):
+    """Up to three kinds, and up to five rules over them."""
+    kinds = drawn.sample(NAMES, drawn.choice([1, 2, 2, 3, 3, 3, 3]))
+    return kinds, draw_rules(drawn, kinds, 5)

@@ -33,6 +33,37 @@ WAYS = """
 [True, 3, None, True]
 """
 
+SETTLING = """
+>>> from lookcrowd.families import Family
+>>> from lookcrowd.rules import Book
+>>> from lookcrowd.settling import judge_settled, may_rest, rests, settled, settles, surely_rests, unsettled
+>>> book = Book(["a", "b"], [("a", "b", "b")])
+>>> mixed, all_b = Family(2, [[(1, None), (1, None)]]), Family(2, [[(0, 0), (0, None)]])
+>>> [settled(book, all_b).boxes, settles(book, mixed, all_b), rests(book).boxes, surely_rests(book).boxes, judge_settled(book, mixed, all_b, Family(2, [[(0, None), (1, None)]]), all_b)]
+[[[(0, 0), (0, None)], [(0, None), (1, None)]], True, [[(0, 0), (0, None)], [(0, None), (0, 0)]], [[(0, None), (0, None)]], True]
+>>> both = Book(["a", "b"], [("a", "b", "b"), ("b", "a", "a")])
+>>> [settles(both, mixed, all_b), unsettled(both, mixed, all_b), settled(both, mixed).boxes, may_rest(both) == ~Family(2, [])]
+[False, ([1, 1], [('b', 'a', 'a')]), [], True]
+"""
+
+CROWDS = """
+>>> from lookcrowd.crowds import Crowd
+>>> from lookcrowd.families import Family
+>>> from lookcrowd.rules import Book
+>>> crowd = Crowd(Book(["a", "b"], [("a", "b", "b")]), [2, 0])
+>>> [crowd.able(), crowd.admit("b"), crowd("a", "b", "b"), crowd.counts, crowd.run, crowd["b"], len(crowd), crowd.undo(), crowd.undo(), crowd.counts, crowd.lies_in(Family(2, [[(0, None), (0, 0)]]))]
+[[], None, None, [1, 2], [('a', 'b', 'b')], 2, 3, None, None, [2, 0], True]
+"""
+
+TEXTS = """
+>>> from lookcrowd.families import Family
+>>> from lookcrowd.readings import read_book, read_family
+>>> from lookcrowd.rules import Book
+>>> from lookcrowd.texts import show_book, show_family
+>>> [show_family(Family(2, [[(0, 2), (1, None)]])), show_book(Book(["a", "b"], [("a", "b", "b")])), read_family("1; 0..") == ~Family(1, []), read_book("a b; a sees b: b") == Book(["a", "b"], [("a", "b", "b")]), show_family(Family(3, []))]
+['2; 0..2 1..', 'a b; a sees b: b', True, True, '3']
+"""
+
 
 class Examples(unittest.TestCase):
 
@@ -51,6 +82,15 @@ class Examples(unittest.TestCase):
 
     def test_ways(self):
         self.check("ways", WAYS)
+
+    def test_settling(self):
+        self.check("settling", SETTLING)
+
+    def test_crowds(self):
+        self.check("crowds", CROWDS)
+
+    def test_texts_and_readings(self):
+        self.check("texts", TEXTS)
 
 
 if __name__ == "__main__":

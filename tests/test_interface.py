@@ -3,7 +3,7 @@
 import inspect
 import unittest
 
-from lookcrowd import errors, families, rules, ways
+from lookcrowd import crowds, errors, families, readings, rules, settling, texts, ways
 
 FUNCTIONS = {
     rules: {"can_do": ["book", "crowd"], "done": ["book", "crowd", "rule"], "follow": ["book", "crowd", "run"],
@@ -13,11 +13,19 @@ FUNCTIONS = {
            "is_closed": ["book", "family"], "stays": ["book", "family"], "can_become": ["book", "family", "goal"],
            "run_to": ["book", "crowd", "goal"], "witness": ["book", "family", "goal"],
            "judge": ["book", "family", "goal", "paper"]},
+    settling: {"settled": ["book", "goal"], "settles": ["book", "family", "goal"],
+               "unsettled": ["book", "family", "goal"], "rests": ["book"], "may_rest": ["book"],
+               "surely_rests": ["book"], "judge_settled": ["book", "family", "goal", "led", "safe"]},
+    texts: {"show_family": ["family"], "show_book": ["book"]},
+    readings: {"read_family": ["text"], "read_book": ["text"]},
 }
 CLASSES = [
     (families, "Family", ["kinds", "boxes"], {"has": ["crowd"], "first": [], "bound": [], "within": ["other"]},
      ["kinds", "boxes"], ["__len__", "__eq__", "__and__", "__or__", "__sub__", "__invert__"]),
     (rules, "Book", ["kinds", "rules"], {"without": ["rule"]}, ["kinds", "rules"], ["__len__", "__eq__"]),
+    (crowds, "Crowd", ["book", "counts"],
+     {"__call__": ["kind", "seen", "new"], "able": [], "lies_in": ["family"], "admit": ["kind", "many"], "undo": []},
+     ["counts", "run"], ["__getitem__", "__len__", "__eq__"]),
 ]
 ERRORS = ["CrowdError", "InvalidName", "DoubleName", "InvalidRule", "DoubleRule", "InvalidBox", "InvalidCrowd",
           "UnlikeKinds", "NotAble", "NothingToUndo", "Unreadable"]
@@ -49,6 +57,9 @@ class Interface(unittest.TestCase):
                 self.assertIsInstance(vars(found)[told], property)
             for sign in signs:
                 self.assertIn(sign, vars(found))
+
+    def test_one_member_joins_if_no_number_is_given(self):
+        self.assertEqual(inspect.signature(crowds.Crowd.admit).parameters["many"].default, 1)
 
     def test_errors(self):
         for name in ERRORS:

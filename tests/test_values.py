@@ -1,14 +1,17 @@
 """Promises [2] and [3] for every call: arguments stay, what is told is new, names of arguments, the same answers."""
 
 import copy
-import random
 import unittest
 
-from plain import NAMES, draw_boxes, draw_rules
+from values import answer, lists_in, plain, spoil
 
+from lookcrowd.crowds import Crowd
 from lookcrowd.errors import CrowdError
 from lookcrowd.families import Family
+from lookcrowd.readings import read_book, read_family
 from lookcrowd.rules import Book, can_do, done, first_unlike, follow, follows, least_rules, needless
+from lookcrowd.settling import judge_settled, may_rest, rests, settled, settles, surely_rests, unsettled
+from lookcrowd.texts import show_book, show_family
 from lookcrowd.ways import can_become, is_closed, judge, leads_into, led_to, one_look, run_to, stays, witness
 
 KINDS = ["a", "b", "c"]
@@ -31,6 +34,19 @@ def family():
 
 def other():
     return Family(3, OTHERS)
+
+
+def live():
+    """A crowd behind some steps."""
+    crowd = Crowd(book(), [2, 1, 0])
+    crowd("a", "b", "c")
+    crowd.admit("b", 2)
+    crowd("c", "b", "b")
+    return crowd
+
+
+# A crowd that many questions are asked of; none of the calls below changes it.
+LIVE = live()
 
 
 # Each call: what is called, and what makes its arguments anew, by name, in order.
@@ -69,6 +85,34 @@ CALLS = [
     (witness, lambda: {"book": book(), "family": family(), "goal": other()}),
     (judge, lambda: {"book": book(), "family": family(), "goal": other(), "paper": family()}),
     (judge, lambda: {"book": book(), "family": Family(3, []), "goal": other(), "paper": Family(3, [])}),
+    (settled, lambda: {"book": book(), "goal": family()}),
+    (settles, lambda: {"book": book(), "family": family(), "goal": other()}),
+    (settles, lambda: {"book": book(), "family": Family(3, []), "goal": other()}),
+    (unsettled, lambda: {"book": book(), "family": family(), "goal": other()}),
+    (unsettled, lambda: {"book": Book(["a", "b"], [("a", "b", "b"), ("b", "a", "a")]),
+                         "family": Family(2, [[(1, 1), (2, 2)]]), "goal": Family(2, [[(0, 0), (0, None)]])}),
+    (rests, lambda: {"book": book()}),
+    (may_rest, lambda: {"book": book()}),
+    (surely_rests, lambda: {"book": book()}),
+    (judge_settled, lambda: {"book": book(), "family": family(), "goal": other(), "led": led_to(book(), family()),
+                             "safe": stays(book(), other())}),
+    (judge_settled, lambda: {"book": book(), "family": Family(3, []), "goal": other(), "led": Family(3, []),
+                             "safe": stays(book(), other())}),
+    (Crowd, lambda: {"book": book(), "counts": [1, 2, 3]}),
+    (lambda: LIVE.counts, dict),
+    (lambda: LIVE.run, dict),
+    (lambda: LIVE.able(), dict),
+    (lambda: LIVE["b"], dict),
+    (lambda: len(LIVE), dict),
+    (LIVE.lies_in, lambda: {"family": family()}),
+    (LIVE.lies_in, lambda: {"family": ~family()}),
+    (lambda kind, seen, new: live()(kind, seen, new), lambda: {"kind": "a", "seen": "b", "new": "b"}),
+    (lambda kind, many: live().admit(kind, many), lambda: {"kind": "a", "many": 3}),
+    (lambda: live().undo(), dict),
+    (show_family, lambda: {"family": family()}),
+    (show_book, lambda: {"book": book()}),
+    (read_family, lambda: {"text": "2; 0..2 1..; 0.. 1..4"}),
+    (read_book, lambda: {"text": "a b c; a sees b: c; c sees b: b"}),
 ]
 
 # The same for calls that raise errors.
@@ -102,44 +146,23 @@ WRONG = [
     (run_to, lambda: {"book": book(), "crowd": [1, 1, 1], "goal": Family(1, [])}),
     (witness, lambda: {"book": book(), "family": Family(1, []), "goal": other()}),
     (judge, lambda: {"book": book(), "family": family(), "goal": other(), "paper": Family(2, [])}),
+    (settled, lambda: {"book": book(), "goal": Family(2, [])}),
+    (settles, lambda: {"book": book(), "family": family(), "goal": Family(2, [])}),
+    (unsettled, lambda: {"book": book(), "family": Family(1, []), "goal": Family(2, [])}),
+    (judge_settled, lambda: {"book": book(), "family": family(), "goal": other(), "led": family(),
+                             "safe": Family(2, [])}),
+    (Crowd, lambda: {"book": book(), "counts": [1, 2, -3]}),
+    (Crowd, lambda: {"book": book(), "counts": [1, 2]}),
+    (LIVE, lambda: {"kind": "b", "seen": "a", "new": "c"}),
+    (LIVE, lambda: {"kind": "c", "seen": "b", "new": "b"}),
+    (LIVE.admit, lambda: {"kind": "d", "many": 0}),
+    (LIVE.admit, lambda: {"kind": "a", "many": 0}),
+    (LIVE.lies_in, lambda: {"family": Family(2, [])}),
+    (lambda: LIVE["d"], dict),
+    (lambda: Crowd(book(), [1, 2, 3]).undo(), dict),
+    (read_family, lambda: {"text": "2; 0..2 1..; 0..1 1..4"}),
+    (read_book, lambda: {"text": "a b c; a sees b: c; c sees b: c"}),
 ]
-
-
-def plain(value):
-    """What a value tells, as plain lists."""
-    if isinstance(value, Family):
-        return ["family", value.kinds, value.boxes, len(value), value.first(), value.bound()]
-    if isinstance(value, Book):
-        return ["book", value.kinds, value.rules, len(value)]
-    if isinstance(value, dict):
-        return {name: plain(given) for name, given in value.items()}
-    return copy.deepcopy(value)
-
-
-def lists_in(value):
-    """All lists in a value, one entry for each place."""
-    if isinstance(value, dict):
-        return [found for given in value.values() for found in lists_in(given)]
-    if isinstance(value, (list, tuple)):
-        inner = [found for given in value for found in lists_in(given)]
-        return inner + [value] if isinstance(value, list) else inner
-    return []
-
-
-def spoil(value):
-    """Change all lists in a value."""
-    for found in lists_in(value):
-        found.reverse()
-        found.append("spoiled")
-        del found[0]
-
-
-def answer(call, given):
-    """What a call returns, or the value of the error that it raises."""
-    try:
-        return call(*given.values())
-    except CrowdError as error:
-        return error.value
 
 
 class Values(unittest.TestCase):
@@ -252,51 +275,6 @@ class Values(unittest.TestCase):
             with self.assertRaises(CrowdError):
                 ask()
             self.assertEqual([plain(held), plain(shown)], before)
-
-
-class Sequences(unittest.TestCase):
-    """The same questions tell the same, whatever was asked before."""
-
-    def questions(self, drawn, kinds):
-        """Drawn objects, and questions to them."""
-        names = NAMES[:kinds]
-        books = [Book(names, draw_rules(drawn, names, 5)) for _ in range(2)]
-        top = 1 if kinds == 3 else 2
-        families = [Family(kinds, draw_boxes(drawn, kinds, drawn.randint(0, 2), top)) for _ in range(3)]
-        crowd = [drawn.randint(0, 2) for _ in names]
-        asked = []
-        for one in families:
-            asked += [lambda one=one: one.boxes, lambda one=one: one.first(), lambda one=one: one.bound(),
-                      lambda one=one: one.has(crowd), lambda one=one: ~one, lambda one=one: len(one)]
-            for two in families:
-                asked += [lambda one=one, two=two: one & two, lambda one=one, two=two: one | two,
-                          lambda one=one, two=two: one - two, lambda one=one, two=two: one.within(two),
-                          lambda one=one, two=two: one == two]
-        for held in books:
-            asked += [lambda held=held: held.rules, lambda held=held: can_do(held, crowd),
-                      lambda held=held: needless(held), lambda held=held: least_rules(held),
-                      lambda held=held: first_unlike(held, books[0]), lambda held=held: held == books[1]]
-            asked += [lambda held=held, rule=rule: held.without(rule) for rule in held.rules]
-            for one in families:
-                asked += [lambda held=held, one=one, ask=ask: ask(held, one)
-                          for ask in (led_to, leads_into, one_look, is_closed, stays)]
-                asked += [lambda held=held, one=one: can_become(held, one, families[0]),
-                          lambda held=held, one=one: witness(held, one, families[1]),
-                          lambda held=held, one=one: judge(held, one, families[2], led_to(held, one)),
-                          lambda held=held, one=one: run_to(held, crowd, one)]
-        return asked
-
-    def test_in_many_sequences(self):
-        drawn = random.Random(23)
-        for case in range(40):
-            asked = self.questions(drawn, drawn.choice([1, 2, 3]))
-            told = [plain(ask()) for ask in asked]
-            for _ in range(3):
-                order = [drawn.randrange(len(asked)) for _ in range(60)]
-                for at in order:
-                    found = asked[at]()
-                    self.assertEqual(plain(found), told[at])
-                    spoil([found])
 
 
 if __name__ == "__main__":

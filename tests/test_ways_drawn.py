@@ -3,92 +3,21 @@
 import random
 import unittest
 
+from drawn_case import DrawnCase
 from plain import (
-    NAMES, behind, box_key, crowds_below, crowds_of, crowds_up_to, draw_boxes, draw_rules, greatest_boxes,
-    greatest_number, lies_in, reached, run_ends)
+    Steps, TOP, box_key, crowds_below, crowds_of, draw_boxes, draw_family, draw_kinds_and_rules, greatest_number,
+    is_closed_plainly, lies_in, lies_within_plainly)
 
 from lookcrowd.families import Family
 from lookcrowd.rules import Book
 from lookcrowd.ways import can_become, is_closed, judge, leads_into, led_to, one_look, run_to, stays, witness
 
-# How many members the crowds have that are asked of, by the number of kinds.
-MEMBERS = {1: 9, 2: 9, 3: 7}
-# The bounds of [2]: the greatest number in a box, by the number of kinds.
-TOP = {1: 2, 2: 2, 3: 1}
 
-
-class Steps:
-    """All crowds of up to some members, with what each one leads to, and where crowds come from."""
-
-    def __init__(self, kinds, rules):
-        self.kinds, self.rules = kinds, rules
-        self.crowds = crowds_up_to(len(kinds), MEMBERS[len(kinds)])
-        self.next = {crowd: behind(kinds, rules, crowd) for crowd in self.crowds}
-        self.ends = {crowd: self.all_from(crowd) for crowd in self.crowds}
-
-    def all_from(self, crowd):
-        seen, left = {crowd}, [crowd]
-        while left:
-            for new in self.next[left.pop()]:
-                if new not in seen:
-                    seen.add(new)
-                    left.append(new)
-        return seen
-
-    def inside(self, boxes):
-        return {crowd for crowd in self.crowds if lies_in(boxes, crowd)}
-
-    def led_to(self, inside):
-        return {end for crowd in inside for end in self.ends[crowd]}
-
-    def leads_into(self, inside):
-        return {crowd for crowd in self.crowds if self.ends[crowd] & inside}
-
-    def one_look(self, inside):
-        return {end for crowd in inside for end in self.next[crowd]}
-
-    def stays(self, inside):
-        return {crowd for crowd in inside if self.ends[crowd] <= inside}
-
-
-def is_closed_plainly(kinds, rules, boxes):
-    """True if no rule leads out: numbers beyond those in the boxes by two make no difference any more."""
-    end = greatest_number(boxes) + 4
-    return all(lies_in(boxes, new) for crowd in crowds_below(len(kinds), end) if lies_in(boxes, crowd)
-               for new in behind(kinds, rules, crowd))
-
-
-def lies_within_plainly(kinds, boxes, others):
-    end = max(greatest_number(boxes), greatest_number(others)) + 2
-    return all(lies_in(others, crowd) for crowd in crowds_below(kinds, end) if lies_in(boxes, crowd))
-
-
-def draw_family(drawn, kinds):
-    """The boxes of a family within the bounds, now and then of no crowd or of all crowds."""
-    if drawn.random() < 0.05:
-        return drawn.choice([[], [[(0, None)] * kinds]])
-    return draw_boxes(drawn, kinds, drawn.choice([0, 1, 1, 2, 2, 2, 2]), TOP[kinds])
-
-
-class Drawn(unittest.TestCase):
+class Drawn(DrawnCase):
 
     def draw_book(self, drawn):
-        kinds = drawn.sample(NAMES, drawn.choice([1, 2, 2, 3, 3, 3, 3]))
-        rules = draw_rules(drawn, kinds, 5)
+        kinds, rules = draw_kinds_and_rules(drawn)
         return kinds, rules, Book(kinds, rules)
-
-    def check(self, family, inside, steps):
-        self.assertEqual({crowd for crowd in steps.crowds if family.has(list(crowd))}, inside)
-
-    def check_greatest(self, family):
-        """The boxes of a family are its greatest ones: by trying all, as far as they are not too many."""
-        boxes = family.boxes
-        last = greatest_number(boxes) + 1
-        if last <= (5 if family.kinds == 3 else 9):
-            inside = {crowd for crowd in crowds_below(family.kinds, last + 1) if family.has(list(crowd))}
-            self.assertEqual(boxes, greatest_boxes(family.kinds, inside, last))
-        self.assertEqual(boxes, sorted(boxes, key=box_key))
-        self.assertEqual(Family(family.kinds, boxes).boxes, boxes)
 
     def test_families_that_come_about(self):
         drawn = random.Random(91)
@@ -186,20 +115,8 @@ class Drawn(unittest.TestCase):
                 continue
             self.assertIs(type(told), tuple)
             self.assertEqual(told[0], list(crowds[0]))
-            self.check_run(kinds, rules, told[0], told[1], goals)
+            self.check_run(kinds, rules, told[0], told[1], lambda end: lies_in(goals, end))
         self.assertGreater(min(met.values()), 200)
-
-    def check_run(self, kinds, rules, crowd, run, goals):
-        """A run of least length from a crowd into boxes, or None if there is none."""
-        lengths = reached(kinds, rules, crowd)
-        least = min((length for end, length in lengths.items() if lies_in(goals, end)), default=None)
-        if least is None:
-            self.assertIsNone(run)
-            return
-        end = run_ends(kinds, crowd, run, rules)
-        self.assertIsNotNone(end, (kinds, rules, crowd, run))
-        self.assertTrue(lies_in(goals, end), (kinds, rules, crowd, run, goals))
-        self.assertEqual(len(run), least)
 
     def test_run_to(self):
         drawn = random.Random(97)
@@ -209,7 +126,7 @@ class Drawn(unittest.TestCase):
             goals = draw_family(drawn, len(kinds))
             crowd = list(drawn.choice(crowds_of(len(kinds), drawn.randint(0, 8))))
             run = run_to(book, crowd, Family(len(kinds), goals))
-            self.check_run(kinds, rules, crowd, run, goals)
+            self.check_run(kinds, rules, crowd, run, lambda end: lies_in(goals, end))
             length = None if run is None else len(run)
             lengths[length] = lengths.get(length, 0) + 1
         self.assertGreater(min(lengths[length] for length in (None, 0, 1, 2, 3, 4)), 10, lengths)
