@@ -214,7 +214,7 @@ class Drawn(unittest.TestCase):
                         equal += same and crowd is not other and plain.rows != mate.rows
                         self.assertIs(crowd == other, same)
                         self.assertIs(crowd != other, not same)
-        self.assertGreater(equal, 500)
+        self.assertGreater(equal, 300)
 
     def test_told_and_given_lists_changed(self):
         drawn = random.Random(125)

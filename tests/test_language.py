@@ -40,6 +40,18 @@ class Language(unittest.TestCase):
             text = path.read_text("utf-8")
             self.assertEqual([letter for letter in text if letter != "\n" and not " " <= letter <= "~"], [], path.name)
 
+    def test_words(self):
+        """What no package may have that has a class with [..]."""
+        for path in FILES:
+            text = path.read_text("utf-8")
+            for word in ("(type)", "Meta", "metaclass="):
+                self.assertNotIn(word, text, path.name)
+            for node in ast.walk(ast.parse(text)):
+                self.assertNotEqual(getattr(node, "attr", None), "keys", path.name)
+                self.assertNotIsInstance(node, (ast.GeneratorExp, ast.AsyncFunctionDef, ast.Global), path.name)
+                if isinstance(node, (ast.FunctionDef, ast.ClassDef)):
+                    self.assertNotEqual(node.name, "keys", path.name)
+
 
 if __name__ == "__main__":
     unittest.main()

@@ -83,7 +83,7 @@ class Drawn(DrawnCase):
                 self.check_greatest(told)
             self.assertTrue(stays(book, goal).within(told))
             self.assertIs(is_closed(book, told), True)
-        self.assertGreater(some, 100)
+        self.assertGreater(some, 60)
 
     def test_rests(self):
         drawn = random.Random(103)
