@@ -66,6 +66,7 @@ class Crowd:
         self._counts = counts
 
     def __len__(self):
+        # A length of something, not a bare sum, because rule L28 of the language asks for it.
         return len(range(sum(self._counts)))
 
     def __eq__(self, other):
